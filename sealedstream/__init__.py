@@ -1,0 +1,1 @@
+"""Sealed streams between two ends that know one another's public keys."""
