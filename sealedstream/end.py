@@ -2,7 +2,11 @@
 
 from sealedstream.curve import KEY_SIZE, is_zero, point, public_key
 from sealedstream.refusals import IS_BROKEN, UNFIT
-from sealedstream.side import End
+from sealedstream.seals import NONCE_SIZE, opened, sealed
+from sealedstream.side import MOST_BYTES, End
+
+# As many bytes as seal makes of MOST_BYTES.
+MOST_SEALED = 65552
 
 
 class Reader:
@@ -69,6 +73,48 @@ def answer_came(end, reader):
     return [end.came(reader.row())]
 
 
+def answer_read(end, reader):
+    return end.read(reader.number())
+
+
+def answer_cut(end, reader):
+    return [end.cut()]
+
+
+def answer_state(end, reader):
+    return end.state()
+
+
+def may_be_sealed(key, nonce, others, most):
+    if len(key) != KEY_SIZE or len(nonce) != NONCE_SIZE:
+        return False
+    return all([len(row) <= most for row in others])
+
+
+def answer_seal(end, reader):
+    key = reader.row()
+    nonce = reader.row()
+    along = reader.row()
+    data = reader.row()
+    if not may_be_sealed(key, nonce, [along, data], MOST_BYTES):
+        return [UNFIT]
+    hidden = sealed(key, nonce, along, data)
+    return [len(hidden)] + hidden
+
+
+def answer_unseal(end, reader):
+    key = reader.row()
+    nonce = reader.row()
+    along = reader.row()
+    hidden = reader.row()
+    if not may_be_sealed(key, nonce, [along, hidden], MOST_SEALED):
+        return [UNFIT]
+    data = opened(key, nonce, along, hidden)
+    if data is None:
+        return [IS_BROKEN]
+    return [len(data)] + data
+
+
 ANSWERERS = {
     1: answer_begin,
     2: answer_public,
@@ -78,6 +124,11 @@ ANSWERERS = {
     6: answer_end,
     7: answer_take,
     8: answer_came,
+    9: answer_read,
+    10: answer_cut,
+    11: answer_state,
+    12: answer_seal,
+    13: answer_unseal,
 }
 
 

@@ -22,6 +22,10 @@ def may_begin(first, every, rows):
     return all([len(row) == KEY_SIZE for row in rows])
 
 
+def may_be_most(most):
+    return 0 <= most and most <= MOST_BYTES
+
+
 class End:
     def __init__(self):
         self.reset()
@@ -111,19 +115,52 @@ class End:
         return 0
 
     def take(self, most):
-        if most < 0 or most > MOST_BYTES:
+        if not may_be_most(most):
             return [UNFIT]
         taken = self.outgoing[:most]
         self.outgoing = self.outgoing[most:]
         return [len(taken)] + taken
 
-    def came(self, data):
-        if len(data) > MOST_BYTES:
-            return UNFIT
+    def read(self, most):
+        if not may_be_most(most):
+            return [UNFIT]
+        data = self.readable[:most]
+        self.readable = self.readable[most:]
+        return [len(data)] + data
+
+    def refusal_to_hear(self):
         if self.phase == NOT_OPENED:
             return NOT_NOW
         if self.phase == BROKEN:
             return IS_BROKEN
+        return 0
+
+    def cut(self):
+        refusal = self.refusal_to_hear()
+        if refusal != 0:
+            return refusal
+        return 1 if self.end_came else 0
+
+    def state(self):
+        return [
+            self.phase,
+            len(self.outgoing),
+            len(self.readable),
+            len(self.arrived),
+            1 if self.end_sent else 0,
+            1 if self.end_came else 0,
+            self.sending.count,
+            self.receiving.count,
+            self.sending.new_keys,
+            self.receiving.new_keys,
+        ]
+
+    def came(self, data):
+        if len(data) > MOST_BYTES:
+            return UNFIT
+        refusal = self.refusal_to_hear()
+        if refusal != 0:
+            return refusal
         if len(self.readable) > MOST_HELD:
             return TOO_MUCH
         self.arrived.extend(data)

@@ -42,8 +42,50 @@ LONG_DATA = [(place * 7 + 3) % 256 for place in range(20000)]
 SECOND_LONG_SHA256 = "94b342a34ae494ff1d0e541220c5e9329a9823210e1d37c31987e65bc4acca92"
 SECOND_END = from_hex("001114dc0ce9b878db5f9594269e6e34dcd570")
 
+# All that the first end sends with every 2 behind its message, and the data in it.
+FIRST_RECORDS = (FIRST_HELLO, FIRST_X, FIRST_NEW_KEY, FIRST_YZ, FIRST_SECOND_NEW_KEY, FIRST_END)
+FIRST_STREAM = [byte for record in FIRST_RECORDS for byte in record]
+FIRST_DATA = list(b"helloxyz")
+
+# The same of the second end, but for the 20000 bytes.
+SECOND_STREAM = SECOND_BACK + SECOND_NEW_KEY + SECOND_AGAIN
+
+# The first end's key when it's sealed, and records that it seals as the first ones, such as no call makes among them.
+FIRST_KEY = from_hex("0370a24de2bb1ee8bc3f7cf17dcc5ce6adfe4d10fd0314261584e07c04d353f5")
+RIGHT_RECORDS = {
+    (0, 5): from_hex("001227cb51ef4cb625e5752b60625bf12e81466e"),
+    (1, None): from_hex("0011268c27570e2f8f982df7c0f8abd2f8c29c"),
+    (2, None): from_hex("00112562932ea0b467366b7c8774f8d6ad774b"),
+}
+WRONG_RECORDS = {
+    (0, None): from_hex("001127bbbb7f7ca9b6faef71fa7c5fce430eee"),
+    (1, 5): from_hex("001226cb225b2448abbd1369e528d73d3336fb1c"),
+    (2, 5): from_hex("001225cbf3c6fbd93096b1a66aef528a37ebafcb"),
+    (3, None): from_hex("00112433ff05323a40d4a8014ef044db622cfa"),
+    (3, 5): from_hex("001224cbc932d36bb66e4fe4efb5ced63ba0647a"),
+    (255, None): from_hex("0011d8a42f8ea64f02d85552b8e87dd51b1d23"),
+}
+FULL_DATA = [place % 251 for place in range(16384)]
+FULL_RECORD_SHA256 = "05cd4878ebcc445d032d12a79de98c21bf0262c484a47768d845971bc4f4b257"
+
+# What RFC 8439 seals.
+SUNSCREEN = list(
+    b"Ladies and Gentlemen of the class of '99: If I could offer you only one tip"
+    b" for the future, sunscreen would be it.")
+SUNSCREEN_KEY = list(range(0x80, 0xA0))
+SUNSCREEN_NONCE = from_hex("070000004041424344454647")
+SUNSCREEN_ALONG = from_hex("50515253c0c1c2c3c4c5c6c7")
+SUNSCREEN_SEALED = from_hex(
+    "d31a8d34648e60db7b86afbc53ef7ec2a4aded51296e08fea9e2b5a736ee62d6"
+    "3dbea45e8ca9671282fafb69da92728b1a71de0a9e060b2905d6a5b67ecd3b36"
+    "92ddbd7f2d778b8c9803aee328091b58fab324e4fad675945585808b4831d7bc"
+    "3ff4def08e4b7a9de576d26586cec64b6116"
+    "1ae10b594f09e26a7e902ecbd0600691")
+
 RENEW = [5]
 END = [6]
+CUT = [10]
+STATE = [11]
 
 # Points of small order, in all the forms that 32 bytes have: each gives 0 with any key.
 SMALL_POINTS = [
@@ -96,6 +138,22 @@ def came(data):
     return [8] + row(data)
 
 
+def read(most):
+    return [9, most]
+
+
+def seal(key, nonce, along, data):
+    return [12] + row(key) + row(nonce) + row(along) + row(data)
+
+
+def unseal(key, nonce, along, data):
+    return [13] + row(key) + row(nonce) + row(along) + row(data)
+
+
+def changed(numbers, place, mask=1):
+    return numbers[:place] + [numbers[place] ^ mask] + numbers[place + 1:]
+
+
 def split_answers(numbers):
     answered = []
     place = 0
@@ -127,6 +185,11 @@ def broken_first():
 def run_sealed(*calls):
     """The answers to these calls on a sealed first end that has nothing to be sent."""
     return run(*sealed_first(), *calls)[3:]
+
+
+def come(*pieces):
+    """The first numbers that a sealed second end answers to these pieces, and to a write behind them."""
+    return [answer[0] for answer in run(*sealed_second(), *[came(piece) for piece in pieces], write([1]))[3:]]
 
 
 def counted(numbers):

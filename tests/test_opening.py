@@ -4,12 +4,8 @@ import unittest
 
 from tests.helper import (
     END, FIRST_FLEETING, FIRST_MESSAGE, FIRST_OWN, FIRST_PUBLIC, RENEW, SECOND_FLEETING, SECOND_MESSAGE, SECOND_OWN,
-    SECOND_PUBLIC, SMALL_POINTS, broken_first, came, counted, open_first, open_second, opening, run, sealed_first,
-    take, write)
-
-
-def changed(row, place):
-    return row[:place] + [row[place] ^ 1] + row[place + 1:]
+    SECOND_PUBLIC, SMALL_POINTS, broken_first, came, changed, counted, open_first, open_second, opening, run,
+    sealed_first, take, write)
 
 
 class Messages(unittest.TestCase):

@@ -4,21 +4,9 @@ import unittest
 
 from sealedstream.cipher import block, derived, mixed
 from sealedstream.seals import opened, sealed, tag
-from tests.helper import from_hex
+from tests.helper import SUNSCREEN, SUNSCREEN_ALONG, SUNSCREEN_KEY, SUNSCREEN_NONCE, SUNSCREEN_SEALED, from_hex
 
 COUNTING_KEY = list(range(32))
-SUNSCREEN = list(
-    b"Ladies and Gentlemen of the class of '99: If I could offer you only one tip"
-    b" for the future, sunscreen would be it.")
-SUNSCREEN_KEY = list(range(0x80, 0xA0))
-SUNSCREEN_NONCE = from_hex("070000004041424344454647")
-SUNSCREEN_ALONG = from_hex("50515253c0c1c2c3c4c5c6c7")
-SUNSCREEN_SEALED = from_hex(
-    "d31a8d34648e60db7b86afbc53ef7ec2a4aded51296e08fea9e2b5a736ee62d6"
-    "3dbea45e8ca9671282fafb69da92728b1a71de0a9e060b2905d6a5b67ecd3b36"
-    "92ddbd7f2d778b8c9803aee328091b58fab324e4fad675945585808b4831d7bc"
-    "3ff4def08e4b7a9de576d26586cec64b6116"
-    "1ae10b594f09e26a7e902ecbd0600691")
 
 
 class Blocks(unittest.TestCase):
